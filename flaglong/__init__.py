@@ -1,0 +1,1 @@
+"""Long numbers of limbs, packed decimals and tables, exact at any length."""

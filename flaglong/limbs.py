@@ -1,0 +1,29 @@
+"""Long numbers: lists of limbs of 64 bits, the lowest first."""
+
+BASE = 18446744073709551616
+
+
+def told(number, limbs):
+    """The one list that a call gives back: its number, how many limbs are told, and these."""
+    return [number, len(limbs)] + limbs
+
+
+def add(carry, a, b):
+    """The carry out of A + B + carry, and the sum's limbs."""
+    sums = []
+    for x, y in zip(a, b, strict=True):
+        total = x + y + carry
+        sums.append(total % BASE)
+        carry = total // BASE
+    return told(carry, sums)
+
+
+def sub(carry, a, b):
+    """The borrow out of A - B - carry, and the difference's limbs."""
+    differences = []
+    for x, y in zip(a, b, strict=True):
+        difference = x - y - carry
+        differences.append(difference % BASE)
+        # A bare comparison would answer True or False, and only whole numbers are given back.
+        carry = 1 if difference < 0 else 0
+    return told(carry, differences)
