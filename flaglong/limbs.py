@@ -27,3 +27,20 @@ def sub(carry, a, b):
         # A bare comparison would answer True or False, and only whole numbers are given back.
         carry = 1 if difference < 0 else 0
     return told(carry, differences)
+
+
+def left(carry, a):
+    """The bit that 2 A + carry puts out at the top, and the limbs of what stays."""
+    # 2 A is A + A, so a step left is a sum and needs no row of its own.
+    return add(carry, a, a)
+
+
+def right(carry, a):
+    """The lowest bit of A + carry W, and the limbs of its half."""
+    halves = []
+    for limb in reversed(a):
+        halves.append((carry * BASE + limb) // 2)
+        carry = limb % 2
+    # The walk begins at the highest limb, but the lowest is told first.
+    halves.reverse()
+    return told(carry, halves)
