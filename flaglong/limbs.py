@@ -37,10 +37,30 @@ def left(carry, a):
 
 def right(carry, a):
     """The lowest bit of A + carry W, and the limbs of its half."""
-    halves = []
+    return pull(1, carry, a)
+
+
+def push(k, given, a):
+    """What A 2^k + (given modulo 2^k) puts out at the top, and the limbs of what stays; k counts modulo 64."""
+    unit = 1 << (k % 64)
+    carry = given % unit
+    pushed = []
+    for limb in a:
+        total = limb * unit + carry
+        pushed.append(total % BASE)
+        carry = total // BASE
+    return told(carry, pushed)
+
+
+def pull(k, given, a):
+    """The lowest k bits of A + (given modulo 2^k) W, and the limbs of what is above them; k counts modulo 64."""
+    unit = 1 << (k % 64)
+    carry = given % unit
+    pulled = []
     for limb in reversed(a):
-        halves.append((carry * BASE + limb) // 2)
-        carry = limb % 2
+        total = carry * BASE + limb
+        pulled.append(total // unit)
+        carry = total % unit
     # The walk begins at the highest limb, but the lowest is told first.
-    halves.reverse()
-    return told(carry, halves)
+    pulled.reverse()
+    return told(carry, pulled)

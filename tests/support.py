@@ -9,6 +9,13 @@ BASE = 2 ** 64
 TOP = BASE - 1
 EDGES = (0, 1, 2, 2 ** 63 - 1, 2 ** 63, TOP - 1, TOP)
 LENGTHS = range(21)
+# The numbers that calls take, by their parameters' names: the edges of each, and the first number beyond it.
+NUMBER_EDGES = {
+    "carry": (0, 1),
+    "k": (0, 1, 63, 64, 65, 127, 128, 2 ** 32 - 1),
+    "given": (0, 1, 2 ** 63, TOP),
+}
+NUMBER_LIMITS = {"carry": 2, "k": 2 ** 32, "given": BASE}
 
 
 def whole(limbs):
@@ -36,6 +43,11 @@ def sample_limb(seed):
     return mixed if mixed % 3 else EDGES[mixed // 3 % len(EDGES)]
 
 
+def sample_number(name, seed):
+    """A fixed number for each seed, within what a call may take by that name."""
+    return sample_limb(seed + sum(name.encode()) * 1000000007) % NUMBER_LIMITS[name]
+
+
 def sample_lists(how_many, length, seed):
     """Fixed lists of limbs of one length, others for each seed."""
     start = seed * 1000 + length * 1000003
@@ -53,106 +65,141 @@ class Guarded(list):
 
 
 class CallPromises:
-    """The promises that hold for each call. A test case says which call, what it is to answer, and of what lists."""
+    """The promises that hold for each call. A test case says which call, what it is to answer, and its parameters."""
 
     call = None
     expected = None
     parameters = ()
 
-    def lists_of_call(self):
-        return len(self.parameters) - 1
+    def numbers_of_call(self):
+        return [name for name in self.parameters if name in NUMBER_EDGES]
 
-    def assert_answer(self, carry, *lists):
-        self.assertEqual(self.call(carry, *lists), self.expected(carry, *lists), (carry, lists))
+    def lists_of_call(self):
+        return len(self.parameters) - len(self.numbers_of_call())
+
+    def edge_numbers(self):
+        return itertools.product(*[NUMBER_EDGES[name] for name in self.numbers_of_call()])
 
     def samples(self, seeds):
+        """Numbers and lists for a call, of each length, as many times as there are seeds."""
         for length in LENGTHS:
             for seed in range(seeds):
-                for carry in (0, 1):
-                    yield carry, sample_lists(self.lists_of_call(), length, seed)
+                numbers = [sample_number(name, seed * 64 + length) for name in self.numbers_of_call()]
+                yield numbers, sample_lists(self.lists_of_call(), length, seed)
+
+    def assert_answer(self, numbers, lists):
+        self.assertEqual(self.call(*numbers, *lists), self.expected(*numbers, *lists), (numbers, lists))
 
     def test_parameters(self):
         self.assertEqual(tuple(inspect.signature(self.call).parameters), self.parameters)
 
     def test_arguments_by_name(self):
-        for carry, lists in self.samples(2):
-            named = dict(zip(self.parameters, [carry] + lists))
-            self.assertEqual(self.call(**named), self.expected(carry, *lists))
+        for numbers, lists in self.samples(4):
+            named = dict(zip(self.parameters, numbers + lists, strict=True))
+            self.assertEqual(self.call(**named), self.expected(*numbers, *lists))
 
     def test_every_pair_of_edges_in_one_and_two_limbs(self):
         for length in (1, 2):
             for limbs in itertools.product(EDGES, repeat=length * self.lists_of_call()):
                 lists = [list(limbs[start:start + length]) for start in range(0, len(limbs), length)]
-                for carry in (0, 1):
-                    self.assert_answer(carry, *lists)
+                for numbers in self.edge_numbers():
+                    self.assert_answer(numbers, lists)
 
     def test_against_whole_numbers_at_each_length(self):
-        for carry, lists in self.samples(400):
-            self.assert_answer(carry, *lists)
+        for numbers, lists in self.samples(800):
+            self.assert_answer(numbers, lists)
+
+    def test_edge_numbers_at_each_length(self):
+        for length in LENGTHS:
+            for seed in range(5):
+                lists = sample_lists(self.lists_of_call(), length, seed)
+                for numbers in self.edge_numbers():
+                    self.assert_answer(numbers, lists)
 
     def test_same_limb_all_through_at_each_length(self):
         for length in LENGTHS:
             for limbs in itertools.product(EDGES, repeat=self.lists_of_call()):
-                for carry in (0, 1):
-                    self.assert_answer(carry, *[[limb] * length for limb in limbs])
+                for numbers in self.edge_numbers():
+                    self.assert_answer(numbers, [[limb] * length for limb in limbs])
 
     def test_far_longer_than_calls_may_nest(self):
-        for carry in (0, 1):
-            self.assert_answer(carry, *sample_lists(self.lists_of_call(), 3000, carry))
-            self.assert_answer(carry, *[[TOP] * 3000] * self.lists_of_call())
+        for lists in (sample_lists(self.lists_of_call(), 3000, 0), [[TOP] * 3000] * self.lists_of_call()):
+            for numbers in self.edge_numbers():
+                # assertEqual would lay out how two such lists differ, for hours.
+                self.assertTrue(self.call(*numbers, *lists) == self.expected(*numbers, *lists), numbers)
 
     def test_lists_are_not_changed(self):
-        for carry, lists in self.samples(5):
+        for numbers, lists in self.samples(10):
             kept = [list(limbs) for limbs in lists]
-            self.call(carry, *lists)
+            self.call(*numbers, *lists)
             self.assertEqual(lists, kept)
 
     def test_lists_are_not_changed_for_a_while(self):
-        for carry, lists in self.samples(5):
+        for numbers, lists in self.samples(10):
             guarded = [Guarded(limbs) for limbs in lists]
-            self.assertEqual(self.call(carry, *guarded), self.expected(carry, *lists))
+            self.assertEqual(self.call(*numbers, *guarded), self.expected(*numbers, *lists))
 
     def test_gives_back_a_new_list(self):
-        for carry, lists in self.samples(5):
-            answer = self.call(carry, *lists)
+        for numbers, lists in self.samples(10):
+            answer = self.call(*numbers, *lists)
             self.assertIs(type(answer), list)
-            self.assertIsNot(answer, self.call(carry, *lists))
+            self.assertIsNot(answer, self.call(*numbers, *lists))
             for limbs in lists:
                 self.assertIsNot(answer, limbs)
 
     def test_gives_back_ints_alone(self):
-        for carry, lists in self.samples(20):
-            for number in self.call(carry, *lists):
+        for numbers, lists in self.samples(40):
+            for number in self.call(*numbers, *lists):
                 self.assertIs(type(number), int)
 
     def test_twice_gives_the_same(self):
-        for carry, lists in self.samples(5):
-            first = self.call(carry, *lists)
+        others = [NUMBER_EDGES[name][-1] for name in self.numbers_of_call()]
+        for numbers, lists in self.samples(10):
+            first = self.call(*numbers, *lists)
             kept = list(first)
             first.append(7)
             first[0] = 5
-            self.call(1 - carry, *[[TOP] * 3 for which in lists])
-            self.assertEqual(self.call(carry, *lists), kept)
+            self.call(*others, *[[TOP] * 3 for which in lists])
+            self.assertEqual(self.call(*numbers, *lists), kept)
 
     def test_prints_nothing(self):
         out = io.StringIO()
         with contextlib.redirect_stdout(out), contextlib.redirect_stderr(out):
-            for carry, lists in self.samples(2):
-                self.call(carry, *lists)
+            for numbers, lists in self.samples(4):
+                self.call(*numbers, *lists)
         self.assertEqual(out.getvalue(), "")
 
 
-class CarriedFromTheLowest:
-    """The carry out of the lower limbs is handed to the higher ones, wherever a number is cut in two."""
+class CarriedOn:
+    """What one part of a number answers is handed to the next part, wherever the number is cut in two."""
+
+    def answer_in_parts(self, numbers, lower, higher):
+        raise NotImplementedError
 
     def test_cut_in_two(self):
-        for carry, lists in self.samples(3):
-            length = len(lists[0])
-            for cut in range(length + 1):
-                lower = self.call(carry, *[limbs[:cut] for limbs in lists])
-                higher = self.call(lower[0], *[limbs[cut:] for limbs in lists])
-                joined = [higher[0], length] + lower[2:] + higher[2:]
-                self.assertEqual(self.call(carry, *lists), joined)
+        for numbers, lists in self.samples(6):
+            for cut in range(len(lists[0]) + 1):
+                lower = [limbs[:cut] for limbs in lists]
+                higher = [limbs[cut:] for limbs in lists]
+                self.assertEqual(self.call(*numbers, *lists), self.answer_in_parts(numbers, lower, higher))
+
+
+class CarriedFromTheLowest(CarriedOn):
+    """The lower part goes first. The number that is carried is the last one that the call takes."""
+
+    def answer_in_parts(self, numbers, lower, higher):
+        first = self.call(*numbers, *lower)
+        second = self.call(*numbers[:-1], first[0], *higher)
+        return [second[0], first[1] + second[1]] + first[2:] + second[2:]
+
+
+class CarriedFromTheHighest(CarriedOn):
+    """The higher part goes first."""
+
+    def answer_in_parts(self, numbers, lower, higher):
+        first = self.call(*numbers, *higher)
+        second = self.call(*numbers[:-1], first[0], *lower)
+        return [second[0], first[1] + second[1]] + second[2:] + first[2:]
 
 
 class TwoListsOfOneLength:
@@ -160,5 +207,34 @@ class TwoListsOfOneLength:
 
     def test_lists_of_two_lengths(self):
         for a, b in (([], [1]), ([1], []), ([1, 2], [3]), ([3], [1, 2])):
-            with self.assertRaises(Exception):
-                self.call(0, a, b)
+            for numbers in self.edge_numbers():
+                with self.assertRaises(Exception):
+                    self.call(*numbers, a, b)
+
+
+class MovedByPlaces:
+    """Bits move by k places, k counted modulo 64, and as many of the lowest bits of `given` come in."""
+
+    def test_no_limbs(self):
+        for given in (0, 1, TOP):
+            for k in (0, 64, 128):
+                self.assertEqual(self.call(k, given, []), [0, 0])
+        for k in (5, 69, 2 ** 32 - 59):
+            self.assertEqual(self.call(k, 0, []), [0, 0])
+            self.assertEqual(self.call(k, 1, []), [1, 0])
+            self.assertEqual(self.call(k, TOP, []), [31, 0])
+        self.assertEqual(self.call(63, TOP, []), [2 ** 63 - 1, 0])
+        self.assertEqual(self.call(65, TOP, []), [1, 0])
+
+    def test_nothing_comes_in_or_goes_out_at_no_places(self):
+        for k in (0, 64, 128, 2 ** 32 - 64):
+            for given in NUMBER_EDGES["given"]:
+                for limbs in ([], [0], [TOP], [1, TOP, 2 ** 63], [TOP] * 20):
+                    self.assertEqual(self.call(k, given, limbs), [0, len(limbs)] + limbs)
+
+    def test_places_count_modulo_64(self):
+        given = 0x123456789ABCDEF0
+        limbs = [TOP, 3, 2 ** 63]
+        for places in range(64):
+            for k in (places + 64, places + 128, places + 2 ** 32 - 64):
+                self.assertEqual(self.call(k, given, limbs), self.call(places, given, limbs))

@@ -1,7 +1,7 @@
 import unittest
 
 from flaglong.limbs import left, right
-from tests.support import TOP, CallPromises, limit, told, whole
+from tests.support import TOP, CallPromises, CarriedFromTheHighest, limit, told, whole
 
 HIGH = 2 ** 63
 
@@ -11,7 +11,7 @@ def expected_step_right(carry, a):
     return told(total % 2, total // 2, a)
 
 
-class RightTest(CallPromises, unittest.TestCase):
+class RightTest(CallPromises, CarriedFromTheHighest, unittest.TestCase):
     call = staticmethod(right)
     expected = staticmethod(expected_step_right)
     parameters = ("carry", "a")
@@ -52,15 +52,8 @@ class RightTest(CallPromises, unittest.TestCase):
             stepped[place - 1] = HIGH
             self.assertEqual(right(0, limbs), [0, 20] + stepped)
 
-    def test_cut_in_two(self):
-        for carry, (limbs,) in self.samples(3):
-            for cut in range(len(limbs) + 1):
-                higher = right(carry, limbs[cut:])
-                lower = right(higher[0], limbs[:cut])
-                self.assertEqual(right(carry, limbs), [lower[0], len(limbs)] + lower[2:] + higher[2:])
-
     def test_takes_back_a_step_left(self):
-        for carry, (limbs,) in self.samples(10):
+        for (carry,), (limbs,) in self.samples(20):
             stepped = left(carry, limbs)
             self.assertEqual(right(stepped[0], stepped[2:]), [carry, len(limbs)] + limbs)
 
