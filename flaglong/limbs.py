@@ -64,3 +64,22 @@ def pull(k, given, a):
     # The walk begins at the highest limb, but the lowest is told first.
     pulled.reverse()
     return told(carry, pulled)
+
+
+def turn(carry, k, a):
+    """The highest bit of A + carry W, a number of 64 n + 1 bits, turned left by k places, and the limbs below it."""
+    n = len(a)
+    bits = 64 * n + 1
+    stepped = left(carry, a)
+    # The number stands here twice, end to end: turned by any k, it is a run of its own length in this row.
+    twice = a + stepped[2:] + [stepped[0] + 2 * carry]
+    below = bits - k % bits
+    # The slice leaves out whole limbs, and pull, which counts modulo 64, the bits that remain.
+    run = pull(below, 0, twice[below // 64:])[2:]
+    return told(run[n] % 2, run[:n])
+
+
+def mean(a, b):
+    """The lowest bit of A + B, and the limbs of its half."""
+    total = add(0, a, b)
+    return right(total[0], total[2:])
