@@ -125,7 +125,7 @@ class CallPromises:
     def test_far_longer_than_calls_may_nest(self):
         for lists in (sample_lists(self.lists_of_call(), 3000, 0), [[TOP] * 3000] * self.lists_of_call()):
             for numbers in self.edge_numbers():
-                # assertEqual would lay out how two such lists differ, for hours.
+                # assertEqual would lay out how two such lists differ, which can take more than ten minutes.
                 self.assertTrue(self.call(*numbers, *lists) == self.expected(*numbers, *lists), numbers)
 
     def test_lists_are_not_changed(self):
