@@ -43,27 +43,15 @@ def right(carry, a):
 def push(k, given, a):
     """What A 2^k + (given modulo 2^k) puts out at the top, and the limbs of what stays; k counts modulo 64."""
     unit = 1 << (k % 64)
-    carry = given % unit
-    pushed = []
-    for limb in a:
-        total = limb * unit + carry
-        pushed.append(total % BASE)
-        carry = total // BASE
-    return told(carry, pushed)
+    return times(unit, given % unit, a)
 
 
 def pull(k, given, a):
     """The lowest k bits of A + (given modulo 2^k) W, and the limbs of what is above them; k counts modulo 64."""
     unit = 1 << (k % 64)
-    carry = given % unit
-    pulled = []
-    for limb in reversed(a):
-        total = carry * BASE + limb
-        pulled.append(total // unit)
-        carry = total % unit
-    # The walk begins at the highest limb, but the lowest is told first.
-    pulled.reverse()
-    return told(carry, pulled)
+    # What comes in is below the unit, so this division is never refused.
+    divided = over(unit, given % unit, a)
+    return told(divided[-1], divided[2:-1])
 
 
 def turn(carry, k, a):
@@ -83,3 +71,30 @@ def mean(a, b):
     """The lowest bit of A + B, and the limbs of its half."""
     total = add(0, a, b)
     return right(total[0], total[2:])
+
+
+def times(m, given, a):
+    """What A m + given puts out at the top, and the limbs of what stays."""
+    carry = given
+    products = []
+    for limb in a:
+        total = limb * m + carry
+        products.append(total % BASE)
+        carry = total // BASE
+    return told(carry, products)
+
+
+def over(d, r, a):
+    """The limbs of A + r W divided by d, and behind them what remains; -3 where the quotient has no room or d is 0."""
+    # No r is below a d of 0, so this refuses that too.
+    if r >= d:
+        return [-3]
+    rest = r
+    quotients = []
+    for limb in reversed(a):
+        total = rest * BASE + limb
+        quotients.append(total // d)
+        rest = total % d
+    # The walk begins at the highest limb, but the lowest is told first.
+    quotients.reverse()
+    return told(0, quotients) + [rest]

@@ -14,8 +14,11 @@ NUMBER_EDGES = {
     "carry": (0, 1),
     "k": (0, 1, 63, 64, 65, 127, 128, 2 ** 32 - 1),
     "given": (0, 1, 2 ** 63, TOP),
+    "m": (0, 1, 2, 3, 2 ** 32, 2 ** 63, TOP),
+    "d": (0, 1, 2, 3, 2 ** 32, 2 ** 63, TOP),
+    "r": (0, 1, 2, 2 ** 32 - 1, 2 ** 63 - 1, TOP - 1, TOP),
 }
-NUMBER_LIMITS = {"carry": 2, "k": 2 ** 32, "given": BASE}
+NUMBER_LIMITS = {"carry": 2, "k": 2 ** 32, "given": BASE, "m": BASE, "d": BASE, "r": BASE}
 
 
 def whole(limbs):
