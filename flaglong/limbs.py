@@ -1,11 +1,11 @@
-"""Long numbers: lists of limbs of 64 bits, the lowest first."""
+"""Long numbers, lists of limbs of 64 bits, and packed decimals, both with the lowest first; tables of bytes."""
 
 BASE = 18446744073709551616
 
 
-def told(number, limbs):
-    """The one list that a call gives back: its number, how many limbs are told, and these."""
-    return [number, len(limbs)] + limbs
+def told(number, row):
+    """The one list that a call gives back: its number, how many limbs or bytes are told, and these."""
+    return [number, len(row)] + row
 
 
 def add(carry, a, b):
@@ -98,3 +98,27 @@ def over(d, r, a):
     # The walk begins at the highest limb, but the lowest is told first.
     quotients.reverse()
     return told(0, quotients) + [rest]
+
+
+def decimal(minus, carry, a, b):
+    """The carry out of A + B + carry, or with minus the borrow out of A - B - carry, and the bytes of what stays.
+
+    -1 - i where byte i, the first such, of a or b is not two decimal digits.
+    """
+    packed = []
+    for x, y in zip(a, b, strict=True):
+        if max(x // 16, x % 16, y // 16, y % 16) > 9:
+            return [-1 - len(packed)]
+        # A byte is 16 for each ten that it stands for, 6 too many.
+        first = x - 6 * (x // 16)
+        second = y - 6 * (y // 16)
+        total = first - second - carry if minus else first + second + carry
+        rest = total % 100
+        packed.append(rest + 6 * (rest // 10))
+        carry = 0 if total == rest else 1
+    return told(carry, packed)
+
+
+def map_by(p, t):
+    """0, and each byte of p replaced by the table's at that place."""
+    return told(0, [t[byte] for byte in p])

@@ -9,6 +9,7 @@ BASE = 2 ** 64
 TOP = BASE - 1
 EDGES = (0, 1, 2, 2 ** 63 - 1, 2 ** 63, TOP - 1, TOP)
 LENGTHS = range(21)
+BYTE_LENGTHS = (*LENGTHS, 33, 64, 100, 150, 255, 256, 257, 299, 300)
 # The numbers that calls take, by their parameters' names: the edges of each, and the first number beyond it.
 NUMBER_EDGES = {
     "carry": (0, 1),
@@ -17,8 +18,9 @@ NUMBER_EDGES = {
     "m": (0, 1, 2, 3, 2 ** 32, 2 ** 63, TOP),
     "d": (0, 1, 2, 3, 2 ** 32, 2 ** 63, TOP),
     "r": (0, 1, 2, 2 ** 32 - 1, 2 ** 63 - 1, TOP - 1, TOP),
+    "minus": (0, 1),
 }
-NUMBER_LIMITS = {"carry": 2, "k": 2 ** 32, "given": BASE, "m": BASE, "d": BASE, "r": BASE}
+NUMBER_LIMITS = {"carry": 2, "k": 2 ** 32, "given": BASE, "m": BASE, "d": BASE, "r": BASE, "minus": 2}
 
 
 def whole(limbs):
@@ -57,6 +59,12 @@ def sample_lists(how_many, length, seed):
     return [[sample_limb(start + place * how_many + which) for place in range(length)] for which in range(how_many)]
 
 
+def sample_bytes(length, seed):
+    """A fixed list of bytes, another for each seed."""
+    limbs, = sample_lists(1, length // 8 + 1, seed * 512 + length)
+    return list(b"".join(limb.to_bytes(8, "little") for limb in limbs)[:length])
+
+
 class Guarded(list):
     """A list that refuses every change, so that one that is taken back later shows too."""
 
@@ -67,12 +75,19 @@ class Guarded(list):
     append = clear = extend = insert = pop = remove = reverse = sort = refuse
 
 
-class CallPromises:
+class EveryCall:
     """The promises that hold for each call. A test case says which call, what it is to answer, and its parameters."""
 
     call = None
     expected = None
     parameters = ()
+    lengths = LENGTHS
+    samples_of_a_length = 800
+    far_longer = 3000
+
+    def sample_lists(self, length, seed):
+        """The lists that a call takes, those of free length of this one."""
+        return sample_lists(self.lists_of_call(), length, seed)
 
     def numbers_of_call(self):
         return [name for name in self.parameters if name in NUMBER_EDGES]
@@ -85,13 +100,17 @@ class CallPromises:
 
     def samples(self, seeds):
         """Numbers and lists for a call, of each length, as many times as there are seeds."""
-        for length in LENGTHS:
+        for length in self.lengths:
             for seed in range(seeds):
-                numbers = [sample_number(name, seed * 64 + length) for name in self.numbers_of_call()]
-                yield numbers, sample_lists(self.lists_of_call(), length, seed)
+                numbers = [sample_number(name, seed * 512 + length) for name in self.numbers_of_call()]
+                yield numbers, self.sample_lists(length, seed)
 
     def assert_answer(self, numbers, lists):
         self.assertEqual(self.call(*numbers, *lists), self.expected(*numbers, *lists), (numbers, lists))
+
+    def assert_long_answer(self, numbers, lists):
+        # assertEqual would lay out how two such lists differ, which can take more than ten minutes.
+        self.assertTrue(self.call(*numbers, *lists) == self.expected(*numbers, *lists), numbers)
 
     def test_parameters(self):
         self.assertEqual(tuple(inspect.signature(self.call).parameters), self.parameters)
@@ -101,35 +120,21 @@ class CallPromises:
             named = dict(zip(self.parameters, numbers + lists, strict=True))
             self.assertEqual(self.call(**named), self.expected(*numbers, *lists))
 
-    def test_every_pair_of_edges_in_one_and_two_limbs(self):
-        for length in (1, 2):
-            for limbs in itertools.product(EDGES, repeat=length * self.lists_of_call()):
-                lists = [list(limbs[start:start + length]) for start in range(0, len(limbs), length)]
-                for numbers in self.edge_numbers():
-                    self.assert_answer(numbers, lists)
-
     def test_against_whole_numbers_at_each_length(self):
-        for numbers, lists in self.samples(800):
+        for numbers, lists in self.samples(self.samples_of_a_length):
             self.assert_answer(numbers, lists)
 
     def test_edge_numbers_at_each_length(self):
-        for length in LENGTHS:
+        for length in self.lengths:
             for seed in range(5):
-                lists = sample_lists(self.lists_of_call(), length, seed)
+                lists = self.sample_lists(length, seed)
                 for numbers in self.edge_numbers():
                     self.assert_answer(numbers, lists)
 
-    def test_same_limb_all_through_at_each_length(self):
-        for length in LENGTHS:
-            for limbs in itertools.product(EDGES, repeat=self.lists_of_call()):
-                for numbers in self.edge_numbers():
-                    self.assert_answer(numbers, [[limb] * length for limb in limbs])
-
     def test_far_longer_than_calls_may_nest(self):
-        for lists in (sample_lists(self.lists_of_call(), 3000, 0), [[TOP] * 3000] * self.lists_of_call()):
-            for numbers in self.edge_numbers():
-                # assertEqual would lay out how two such lists differ, which can take more than ten minutes.
-                self.assertTrue(self.call(*numbers, *lists) == self.expected(*numbers, *lists), numbers)
+        lists = self.sample_lists(self.far_longer, 0)
+        for numbers in self.edge_numbers():
+            self.assert_long_answer(numbers, lists)
 
     def test_lists_are_not_changed(self):
         for numbers, lists in self.samples(10):
@@ -162,7 +167,7 @@ class CallPromises:
             kept = list(first)
             first.append(7)
             first[0] = 5
-            self.call(*others, *[[TOP] * 3 for which in lists])
+            self.call(*others, *self.sample_lists(3, 99))
             self.assertEqual(self.call(*numbers, *lists), kept)
 
     def test_prints_nothing(self):
@@ -173,6 +178,29 @@ class CallPromises:
         self.assertEqual(out.getvalue(), "")
 
 
+class CallPromises(EveryCall):
+    """Those of the calls that go through lists of one length, place by place."""
+
+    edges = EDGES
+
+    def test_every_pair_of_edges_in_one_and_two_places(self):
+        for length in (1, 2):
+            for entries in itertools.product(self.edges, repeat=length * self.lists_of_call()):
+                lists = [list(entries[start:start + length]) for start in range(0, len(entries), length)]
+                for numbers in self.edge_numbers():
+                    self.assert_answer(numbers, lists)
+
+    def test_same_entry_all_through_at_each_length(self):
+        for length in self.lengths:
+            for entries in itertools.product(self.edges, repeat=self.lists_of_call()):
+                for numbers in self.edge_numbers():
+                    self.assert_answer(numbers, [[entry] * length for entry in entries])
+
+    def test_highest_entry_far_longer_than_calls_may_nest(self):
+        for numbers in self.edge_numbers():
+            self.assert_long_answer(numbers, [[self.edges[-1]] * self.far_longer] * self.lists_of_call())
+
+
 class CarriedOn:
     """What one part of a number answers is handed to the next part, wherever the number is cut in two."""
 
@@ -181,7 +209,8 @@ class CarriedOn:
 
     def test_cut_in_two(self):
         for numbers, lists in self.samples(6):
-            for cut in range(len(lists[0]) + 1):
+            length = len(lists[0])
+            for cut in range(0, length + 1, max(length // 20, 1)):
                 lower = [limbs[:cut] for limbs in lists]
                 higher = [limbs[cut:] for limbs in lists]
                 self.assertEqual(self.call(*numbers, *lists), self.answer_in_parts(numbers, lower, higher))
